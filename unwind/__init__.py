@@ -1,0 +1,1 @@
+"""Faults, catching blocks and blocks for the end, on a machine that knows none of these."""
