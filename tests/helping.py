@@ -1,5 +1,12 @@
 """Short makers of programs, a second teller of them, and programs made by the thousand."""
 
+import copy
+import unittest
+
+from unwind.machine import run
+from unwind.making import made
+from unwind.trees import told
+
 ZERO = ("num", 0)
 ONE = ("num", 1)
 LEAVE = ("leave",)
@@ -286,3 +293,31 @@ class Growing:
             return ("end", block(), block())
         wanted = self.dice.one_of([None, None, 1, 2, 101, 102])
         return ("catch", block(), wanted, below(4), block())
+
+
+class Telling(unittest.TestCase):
+    """Tests by what a program tells, by its statements, by the machine and by its twin."""
+
+    def tells(self, program, expected, number=0, turns=1000):
+        before = copy.deepcopy(program)
+        self.assertEqual(told(program, number, turns), expected)
+        self.assertEqual(run(made(program), number, turns), expected)
+        self.assertEqual(program, before)
+
+    def answers(self, program, said, answer=0, number=0, turns=1000):
+        self.tells(program, (said, "answer", answer), number, turns)
+
+    def faults(self, program, said, fault, number=0, turns=1000):
+        self.tells(program, (said, "fault", fault), number, turns)
+
+    def tires(self, program, said, turns, number=0):
+        self.tells(program, (said, "tired", 0), number, turns)
+
+    def all_alike(self, program, numbers, turns):
+        parts = made(program)
+        other = twin(program)
+        for number in numbers:
+            for some in turns:
+                expected = other(number, some)
+                self.assertEqual(told(program, number, some), expected, (program, number, some))
+                self.assertEqual(run(parts, number, some), expected, (program, number, some))
