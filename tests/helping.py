@@ -202,10 +202,10 @@ def twin_statement(s, depth):
     if word == "end":
         return ([pad + "try:"] + twin_block(s[1], depth + 1)
                 + [pad + "finally:", f"{pad} if not m.tired:"] + twin_block(s[2], depth + 2))
+    others_go_on = [] if s[2] is None else [f"{pad} if fault.number != {s[2]}: raise"]
     return ([pad + "try:"] + twin_block(s[1], depth + 1)
-            + [f"{pad}except Fault as fault:",
-               f"{pad} if {s[2]} is not None and fault.number != {s[2]}: raise",
-               f"{pad} b[{s[3]}] = fault.number"] + twin_block(s[4], depth + 1))
+            + [f"{pad}except Fault as fault:"] + others_go_on
+            + [f"{pad} b[{s[3]}] = fault.number"] + twin_block(s[4], depth + 1))
 
 
 def twin(program):
@@ -246,13 +246,14 @@ class Dice:
 class Growing:
     """Grows programs that are not refused."""
 
-    def __init__(self, seed):
+    def __init__(self, seed, most=5):
         self.dice = Dice(seed)
+        self.most = most
         self.functions = 1 + self.dice.below(3)
         self.blocks = 0
 
     def program(self):
-        return [self.block(1, False, 6) for _ in range(self.functions)]
+        return [self.block(1, False) for _ in range(self.functions)]
 
     def expression(self, room):
         below = self.dice.below
@@ -263,15 +264,15 @@ class Growing:
             return call(below(self.functions), self.expression(room - 1))
         return (word, self.expression(room - 1), self.expression(room - 1))
 
-    def block(self, depth, looped, most):
+    def block(self, depth, looped):
         self.blocks += 1
         mark = [say(self.blocks)] * (self.dice.below(4) > 0)
-        return mark + [self.statement(depth, looped, most) for _ in range(self.dice.below(4))]
+        return mark + [self.statement(depth, looped) for _ in range(self.dice.below(4))]
 
-    def statement(self, depth, looped, most):
+    def statement(self, depth, looped):
         below = self.dice.below
         words = ["set", "say", "raise", "give"] + ["leave", "next"] * looped
-        if depth < most:
+        if depth < self.most:
             words += ["if", "loop", "loop", "catch", "catch", "end", "end"] * 2
         word = self.dice.one_of(words)
         if word == "set":
@@ -284,7 +285,7 @@ class Growing:
             return (word,)
 
         def block(inside=looped):
-            return self.block(depth + 1, inside, most)
+            return self.block(depth + 1, inside)
         if word == "if":
             return ("if", self.expression(3), block(), block())
         if word == "loop":
