@@ -242,17 +242,19 @@ class FaultsTest(Machines):
         self.answers(rows, [], 2, stretches=[(1, 1, 2), (0, 2, 4)])
         self.answers(rows, [], 2, stretches=[(0, 1, 2), (2, 6, 2), (1, 4, 4), (0, 6, 2)])
 
-    def test_the_pile_is_emptied(self):
-        # At the goal there is the number alone; it is added to itself by way of a box.
+    def test_the_number_is_laid_on_the_pile(self):
         rows = [("put", 50), ("put", 40), ("put", 6), RAISE, ("set", 1), ("get", 1), ("get", 1), ADD, BACK]
         self.answers(rows, [], 12, stretches=[(3, 4, 4)])
-        rows = [("put", 50), ("put", 6), RAISE, BACK]
-        self.answers(rows, [], 6, stretches=[(0, 3, 3)])
-
-    def test_the_pile_is_emptied_below_the_number(self):
-        # Were it not, the rows at the goal would find 50 below.
         rows = [("put", 50), ("put", 1), ("put", 0), SHARE, ("put", 7), ("sub",), BACK]
         self.answers(rows, [], 94, stretches=[(3, 4, 4)])
+
+    def test_the_pile_is_emptied(self):
+        # Code that keeps to the rules can't see it, so this one takes more than must lie there.
+        for rows in ([("put", 50), ("put", 6), RAISE, SAY, BACK],
+                     [("put", 50), ("put", 1), ("put", 0), SHARE, ADD, BACK]):
+            at = len(rows) - 3
+            with self.assertRaises(IndexError):
+                run((rows, [(at, at + 1, at + 1)], [0], 1), 0, 0)
 
     def test_share_in_a_stretch(self):
         rows = [("put", 1), ("put", 0), SHARE, BACK]

@@ -143,7 +143,7 @@ def _catch(run, statement, boxes):
     if way is None:
         return None
     word, worth = way
-    if word != "fault" or wanted is not None and wanted != worth:
+    if word != "fault" or (wanted is not None and wanted != worth):
         return way
     boxes[box] = worth
     return _block(run, hand, boxes)
