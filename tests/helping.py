@@ -7,6 +7,8 @@ from unwind.machine import run
 from unwind.making import made
 from unwind.trees import told
 
+# A number of more digits than Python makes a string of.
+GREAT = 10 ** 5000
 ZERO = ("num", 0)
 ONE = ("num", 1)
 LEAVE = ("leave",)
@@ -158,7 +160,7 @@ class Twin:
 def twin_expression(e):
     word = e[0]
     if word == "num":
-        return f"({e[1]})"
+        return f"({e[1]:#x})"
     if word == "box":
         return f"b[{e[1]}]"
     if word == "call":
@@ -202,7 +204,7 @@ def twin_statement(s, depth):
     if word == "end":
         return ([pad + "try:"] + twin_block(s[1], depth + 1)
                 + [pad + "finally:", f"{pad} if not m.tired:"] + twin_block(s[2], depth + 2))
-    others_go_on = [] if s[2] is None else [f"{pad} if fault.number != {s[2]}: raise"]
+    others_go_on = [] if s[2] is None else [f"{pad} if fault.number != {s[2]:#x}: raise"]
     return ([pad + "try:"] + twin_block(s[1], depth + 1)
             + [f"{pad}except Fault as fault:"] + others_go_on
             + [f"{pad} b[{s[3]}] = fault.number"] + twin_block(s[4], depth + 1))
@@ -246,9 +248,11 @@ class Dice:
 class Growing:
     """Grows programs that are not refused."""
 
-    def __init__(self, seed, most=5):
+    def __init__(self, seed, most=5, great=False):
         self.dice = Dice(seed)
         self.most = most
+        self.numbers = [-3, -1, 0, 1, 2, 7, 101] + [GREAT, -GREAT] * great
+        self.faults = [1, 2, 101, 102] + [GREAT, -GREAT] * great
         self.functions = 1 + self.dice.below(3)
         self.blocks = 0
 
@@ -258,7 +262,7 @@ class Growing:
     def expression(self, room):
         below = self.dice.below
         if room < 2 or below(2):
-            return box(below(4)) if below(2) else num(self.dice.one_of([-3, -1, 0, 1, 2, 7, 101]))
+            return box(below(4)) if below(2) else num(self.dice.one_of(self.numbers))
         word = self.dice.one_of(["add", "sub", "less", "share", "share", "call"])
         if word == "call":
             return call(below(self.functions), self.expression(room - 1))
@@ -280,7 +284,7 @@ class Growing:
         if word in ("say", "give"):
             return (word, self.expression(4))
         if word == "raise":
-            return ("raise", num(self.dice.one_of([1, 2, 101, 102])))
+            return ("raise", num(self.dice.one_of(self.faults)))
         if word in ("leave", "next"):
             return (word,)
 
@@ -292,7 +296,7 @@ class Growing:
             return ("loop", self.expression(3), block(True))
         if word == "end":
             return ("end", block(), block())
-        wanted = self.dice.one_of([None, None, 1, 2, 101, 102])
+        wanted = self.dice.one_of([None, None] + self.faults)
         return ("catch", block(), wanted, below(4), block())
 
 

@@ -2,7 +2,7 @@
 
 import unittest
 
-from tests.helping import (NOUGHT_SHARE, ONE, ZERO, Telling, add, box, call, catch, chatty, end, give,
+from tests.helping import (GREAT, NOUGHT_SHARE, ONE, ZERO, Telling, add, box, call, catch, chatty, end, give,
                            if_, less, loop, num, put, say, say_box, share, sub, throw)
 
 HUGE = 10 ** 60 + 7
@@ -41,6 +41,19 @@ class ReckoningTest(Telling):
         for one in (0, 1, -1, HUGE):
             self.faults([[say(1), ("give", share(num(one), ZERO))]], [1], 101)
         self.faults([[say(1), ("say", share(ONE, sub(num(5), num(5)))), say(2)]], [1], 101)
+
+    def test_great_numbers(self):
+        for expression, expected in ((num(GREAT), GREAT), (num(-GREAT), -GREAT),
+                                     (add(num(GREAT), num(GREAT)), 2 * GREAT), (sub(ONE, num(GREAT)), 1 - GREAT),
+                                     (less(num(-GREAT), num(GREAT)), 1), (less(num(GREAT), num(GREAT)), 0),
+                                     (share(num(GREAT), num(GREAT)), 1), (share(num(GREAT), ONE), GREAT),
+                                     (share(num(-1), num(GREAT)), -1), (share(ONE, num(-GREAT)), -1)):
+            self.comes_to(expression, expected)
+        self.faults([[("say", share(num(GREAT), ZERO))]], [], 101)
+
+    def test_great_numbers_are_handed_on(self):
+        self.answers([[("give", call(1, box(0)))], [say_box(0), ("give", box(0))]], [GREAT], GREAT, number=GREAT)
+        self.answers([[("say", call(1))], chatty(4)], [4, 4], turns=GREAT)
 
     def test_expressions_within_one_another(self):
         self.comes_to(sub(share(num(-9), add(ONE, ONE)), less(ONE, num(2))), -6)

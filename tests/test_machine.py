@@ -3,6 +3,7 @@
 import copy
 import unittest
 
+from tests.helping import GREAT
 from unwind.machine import goal_of, run
 
 SAY = ("say",)
@@ -95,6 +96,16 @@ class RowsTest(Machines):
                                            ("share", 0, 7, 0), ("add", 10 ** 40, 1, 10 ** 40 + 1)):
             with self.subTest(word, one=one, other=other):
                 self.answers([("put", 33), ("put", one), ("put", other), (word,), SAY, BACK], [expected], 33)
+
+    def test_great_numbers(self):
+        for n in (GREAT, -GREAT):
+            self.answers([("put", n), ("set", 1), ("get", 1), SAY, ("get", 0), BACK], [n], n + 1, number=n + 1)
+            self.answers([("put", n), ("nought", 0), ("put", n), ("put", n), ADD, BACK], [], 2 * n)
+            self.faults([("put", n), ("put", 0), SHARE], [], 101)
+            self.faults([("put", n), RAISE], [], n)
+            self.answers([("put", n), RAISE, SAY] + give(n), [n], n, stretches=[(0, 2, 2)])
+            self.answers([("put", n), ("call", 1), SAY] + give(0) + [("get", 0), BACK], [n], begins=[0, 5])
+            self.assertIsNone(goal_of([(0, 6, 8)], n))
 
     def test_share_by_nought(self):
         self.faults([("put", 1), ("put", 0), SHARE] + give(1), [], 101)

@@ -3,7 +3,7 @@
 import copy
 import unittest
 
-from tests.helping import (LEAVE, NEXT, NOUGHT_SHARE, ONE, ZERO, Growing, Telling, add, blocks_within, box, call,
+from tests.helping import (GREAT, LEAVE, NEXT, NOUGHT_SHARE, ONE, ZERO, Growing, Telling, add, blocks_within, box, call,
                            catch, chatty, end, give, if_, loop, num, parts_within, put, say, say_box, sub, throw)
 from unwind.machine import run
 from unwind.making import made
@@ -156,6 +156,10 @@ class SameTest(Telling):
     def test_of_grown_programs_with_huge_numbers(self):
         for seed in range(SOME, SOME + 40):
             self.all_alike(Growing(seed).program(), [10 ** 50, -10 ** 50], [30])
+
+    def test_of_grown_programs_with_numbers_too_great_for_strings(self):
+        for seed in range(SOME, SOME + 40):
+            self.all_alike(Growing(seed, great=True).program(), [GREAT, -GREAT], [0, 30])
 
     def test_at_every_number_of_turns(self):
         block = [("set", 1, add(box(1), ONE)), end([("say", call(1, box(1)))], [("set", 2, call(1, num(5)))])]

@@ -3,7 +3,7 @@
 import copy
 import unittest
 
-from tests.helping import (LEAVE, NEXT, ONE, ZERO, add, blocks_within, box, call, catch, end, give,
+from tests.helping import (GREAT, LEAVE, NEXT, ONE, ZERO, add, blocks_within, box, call, catch, end, give,
                            if_, less, loop, num, parts_within, say, share, sub)
 from unwind import programs
 from unwind.errors import MillError, NoBox, NoFunction, NoLoop, TooDeep
@@ -12,6 +12,7 @@ from unwind.programs import checked
 from unwind.trees import told
 
 KINDS = (NoBox, NoFunction, NoLoop, TooDeep)
+GREAT_ONES = (10 ** 30, 10 ** 4299, 10 ** 4300, GREAT, -GREAT, GREAT ** 4)
 NO_BOX = ("say", box(4))
 NO_FUNCTION = ("say", call(1))
 TOO_MANY_PARTS = ("say", parts_within(7))
@@ -63,18 +64,20 @@ class BoxesTest(Refusals):
             self.fine([[("set", k, box(k)), catch([], None, k, [])]])
 
     def test_other_boxes_are_not(self):
-        for k in (-1, 4, -4, 10 ** 30):
+        for k in (-1, 4, -4) + GREAT_ONES:
             self.refused([[("set", k, ONE)]], NoBox)
             self.refused([[catch([], None, k, [])]], NoBox)
             for word, made_with in STATEMENTS_WITH.items():
-                with self.subTest(word=word, k=k):
+                with self.subTest(word):
                     self.refused([[made_with(box(k))]], NoBox)
 
     def test_within_expressions(self):
         for joined in (add, sub, less, share):
             self.refused([[("say", joined(box(4), ONE))]], NoBox)
             self.refused([[("say", joined(ONE, box(-1)))]], NoBox)
+            self.refused([[("say", joined(ONE, box(GREAT)))]], NoBox)
         self.refused([[("say", call(0, box(4)))]], NoBox)
+        self.refused([[("say", call(0, box(GREAT)))]], NoBox)
 
     def test_within_all_blocks(self):
         for name, within in BLOCKS_OF.items():
@@ -96,7 +99,16 @@ class FunctionsTest(Refusals):
         self.refused([[("say", call(2))], []], NoFunction)
         self.refused([[], [("say", call(2))]], NoFunction)
         self.refused([[("say", call(-1))], []], NoFunction)
-        self.refused([[("say", call(10 ** 30))], []], NoFunction)
+
+    def test_functions_of_great_numbers(self):
+        for f in GREAT_ONES:
+            self.refused([[("say", call(f))], []], NoFunction)
+            for word, made_with in STATEMENTS_WITH.items():
+                with self.subTest(word):
+                    self.refused([[made_with(call(f))]], NoFunction)
+            for joined in (add, sub, less, share):
+                self.refused([[("say", joined(ONE, call(f)))]], NoFunction)
+            self.refused([[("say", call(0, call(f)))]], NoFunction)
 
     def test_everywhere(self):
         for word, made_with in STATEMENTS_WITH.items():
@@ -187,6 +199,21 @@ class DepthsTest(Refusals):
         for _ in range(7):
             block = [if_(parts_within(6), block, [])]
         self.fine([block])
+
+
+class GreatNumbersTest(Refusals):
+    def test_numbers_that_name_nothing_may_be_great(self):
+        for n in GREAT_ONES:
+            self.fine([[("say", num(n)), catch([], n, 0, [])]])
+
+    def test_what_stands_around_great_numbers_is_refused_alike(self):
+        great = ("say", num(GREAT))
+        self.refused([[great, LEAVE]], NoLoop)
+        self.refused([[great], blocks_within(9)], TooDeep)
+        self.refused([[("say", parts_within(7, True, num(GREAT)))]], TooDeep)
+        self.refused([[("say", parts_within(7, True, box(GREAT)))]], TooDeep)
+        self.refused([[("set", GREAT, call(GREAT))]], NoBox)
+        self.refused([[("set", 0, call(GREAT, box(GREAT)))]], NoFunction)
 
 
 class FirstOneCountsTest(Refusals):

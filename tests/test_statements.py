@@ -3,8 +3,8 @@
 import itertools
 import unittest
 
-from tests.helping import (LEAVE, NEXT, NOUGHT_SHARE, ONE, ZERO, Telling, add, box, call, catch, chatty, end, give,
-                           if_, less, loop, num, put, say, say_box, sub, throw)
+from tests.helping import (GREAT, LEAVE, NEXT, NOUGHT_SHARE, ONE, ZERO, Telling, add, box, call, catch, chatty, end,
+                           give, if_, less, loop, num, put, say, say_box, sub, throw)
 from unwind.trees import told
 
 WAYS = {
@@ -97,6 +97,16 @@ class CatchTest(Telling):
             self.answers([[catch([throw(number)], None, 1, [say_box(1)])]], [number])
         self.answers([[catch([("say", NOUGHT_SHARE)], None, 1, [say_box(1)])]], [101])
 
+    def test_great_numbers(self):
+        for number in (GREAT, -GREAT):
+            self.faults([[throw(number)]], [], number)
+            self.faults([[end([throw(number)], [say(1)])]], [1], number)
+            self.faults([[catch([throw(number)], number + 1, 1, [say(0)])]], [], number)
+            self.answers([[catch([throw(number)], number, 1, [say_box(1)])]], [number])
+            self.answers([[catch([throw(number)], None, 1, [say_box(1)])]], [number])
+            self.answers([[catch([("raise", call(1))], number, 1, [say_box(1)])], [give(number)]], [number])
+            self.faults([[catch([throw(1)], number, 1, [say(0)])]], [], 1)
+
     def test_another_number_goes_on_and_leaves_the_box(self):
         self.faults([[catch([throw(5)], 4, 1, [say(0)]), say(0)]], [], 5)
         self.answers([[put(1, 7), catch([catch([throw(5)], 4, 1, [say(0)]), say(0)], 5, 2, [say_box(1), say_box(2)])]],
@@ -153,6 +163,12 @@ class EndTest(Telling):
 
     def test_give_goes_on_with_its_number(self):
         self.answers([[put(1, 6), end([("give", box(1)), say(0)], [say(2), put(1, 9)]), say(0)]], [2], 6)
+
+    def test_great_numbers_go_on(self):
+        for number in (GREAT, -GREAT):
+            self.answers([[end([give(number)], [("set", 0, ONE), say(1)])]], [1], number)
+            self.faults([[end([throw(number)], [catch([throw(-number)], None, 0, []), say_box(0)])]], [-number], number)
+            self.answers([[end([throw(1)], [give(number)])]], [], number)
 
     def test_a_fault_goes_on_with_its_number(self):
         self.faults([[put(1, 6), end([("raise", box(1)), say(0)], [say(2), put(1, 9)]), say(0)]], [2], 6)

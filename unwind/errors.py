@@ -2,7 +2,11 @@
 
 
 class MillError(ValueError):
-    """A program is refused."""
+    """A program is refused.
+
+    No message tells a number of the program: Python makes no string of one that
+    has too many digits, and raises an error of its own.
+    """
 
 
 class NoBox(MillError):

@@ -75,12 +75,12 @@ def _check_expression(expression, depth, functions):
 
 def _check_box(box):
     if not 0 <= box < BOXES:
-        raise NoBox(f"there is no box {box}")
+        raise NoBox(f"a box's number is none of 0 to {BOXES - 1}")
 
 
 def _check_function(function, functions):
     if not 0 <= function < functions:
-        raise NoFunction(f"there is no function {function}")
+        raise NoFunction("a function is called that is not there")
 
 
 def reckoned(word, one, other):
